@@ -1,0 +1,1 @@
+"""Jobs that hold locks: who runs when, and at what priority."""
