@@ -12,6 +12,7 @@ CEILING_WAY = 2
 
 OUT_OF_RANGE = -1
 TOO_MANY_JOBS = -2
+NOT_DONE = -2
 SAME_PRIORITY = -3
 NOT_READY = -4
 NOBODY_RUNS = -5
@@ -20,9 +21,13 @@ BEGIN = 0
 JOB = 1
 CEILING = 2
 RUNS = 3
+AT = 4
+ENDS = 5
+TURNS = 6
+MOST = 7
 
-# How many numbers each call has, from call 0 to call 4; a job's needs come on top.
-CALL_LENGTHS = (1, 5, 2, 3, 4)
+# How many numbers each call has, from call 0 to call 8; a job's needs come on top.
+CALL_LENGTHS = (1, 5, 2, 3, 4, 3, 3, 2, 2)
 
 
 class Job:
@@ -80,6 +85,10 @@ def lock_ceiling(jobs, lock):
     return max([job.priority for job in jobs if needs_lock(job, lock)], default=0)
 
 
+def ceilings_of(jobs):
+    return [lock_ceiling(jobs, lock) for lock in range(LOCKS)]
+
+
 def greatest_ceiling(locks, ceilings):
     """The greatest ceiling of these locks; 0, which is below every priority, if there are none."""
     return max([ceilings[lock] for lock in range(LOCKS) if has_lock(locks, lock)], default=0)
@@ -134,7 +143,7 @@ def moment_of(way, standings):
 
 def timetable_of(way, jobs):
     """The moments of all times from 0 on, if all goes in this way."""
-    ceilings = [lock_ceiling(jobs, lock) for lock in range(LOCKS)]
+    ceilings = ceilings_of(jobs)
     comings = [job.comes for job in jobs]
     done = [0 for job in jobs]
     moments = []
@@ -148,6 +157,34 @@ def timetable_of(way, jobs):
         if moments[t].runner >= 0:
             done[moments[t].runner] += 1
     return moments
+
+
+def end_of(job, number, moments):
+    """When a job is done; or that it is not by the last of these moments."""
+    times = [t for t, moment in enumerate(moments) if moment.runner == number]
+    if len(times) < len(job.needs):
+        return NOT_DONE
+    return times[-1] + 1
+
+
+def lesser_runs(jobs, moment, number):
+    """Whether this job is ready, and one with a lesser priority of its own runs."""
+    if moment.levels[number] == NOT_READY or moment.runner < 0:
+        return False
+    return jobs[moment.runner].priority < jobs[number].priority
+
+
+def longest_hold(needs, ceilings, priority):
+    """The most units one behind another, each begun with a lock held whose ceiling isn't below this priority."""
+    longest = 0
+    length = 0
+    for done in range(1, len(needs)):
+        if greatest_ceiling(locks_held(needs, done), ceilings) >= priority:
+            length += 1
+        else:
+            length = 0
+        longest = max(longest, length)
+    return longest
 
 
 def is_way(way):
@@ -189,17 +226,45 @@ class Row:
     def runs(self, way, t):
         if not (is_way(way) and is_time(t)):
             return OUT_OF_RANGE
-        return self.moment(way, t).runner
+        return self.timetable(way)[t].runner
 
     def at(self, way, t, number):
-        if not (is_way(way) and is_time(t) and 0 <= number < len(self.jobs)):
+        if not (is_way(way) and is_time(t) and self.has_job(number)):
             return OUT_OF_RANGE
-        return self.moment(way, t).levels[number]
+        return self.timetable(way)[t].levels[number]
 
-    def moment(self, way, t):
+    def ends(self, way, number):
+        if not (is_way(way) and self.has_job(number)):
+            return OUT_OF_RANGE
+        return end_of(self.jobs[number], number, self.timetable(way))
+
+    def turns(self, way, number):
+        if not (is_way(way) and self.has_job(number)):
+            return OUT_OF_RANGE
+        return len([moment for moment in self.timetable(way) if lesser_runs(self.jobs, moment, number)])
+
+    def most(self, number):
+        if not self.has_job(number):
+            return OUT_OF_RANGE
+        priority = self.jobs[number].priority
+        ceilings = ceilings_of(self.jobs)
+        lesser = [job for job in self.jobs if job.priority < priority]
+        # A row has one unit more, its first, however that is begun; the promise takes one off again.
+        return max([longest_hold(job.needs, ceilings, priority) for job in lesser], default=0)
+
+    def left(self, way):
+        if not is_way(way):
+            return OUT_OF_RANGE
+        endings = [end_of(job, number, self.timetable(way)) for number, job in enumerate(self.jobs)]
+        return endings.count(NOT_DONE)
+
+    def has_job(self, number):
+        return 0 <= number < len(self.jobs)
+
+    def timetable(self, way):
         if way not in self.timetables:
             self.timetables[way] = timetable_of(way, self.jobs)
-        return self.timetables[way][t]
+        return self.timetables[way]
 
 
 def call_length(calls, place):
@@ -221,7 +286,15 @@ def answer(row, call):
         return row.ceiling(call[1])
     if number == RUNS:
         return row.runs(call[1], call[2])
-    return row.at(call[1], call[2], call[3])
+    if number == AT:
+        return row.at(call[1], call[2], call[3])
+    if number == ENDS:
+        return row.ends(call[1], call[2])
+    if number == TURNS:
+        return row.turns(call[1], call[2])
+    if number == MOST:
+        return row.most(call[1])
+    return row.left(call[1])
 
 
 def answers(calls):

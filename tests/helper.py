@@ -32,6 +32,22 @@ def at(way, t, number):
     return [4, way, t, number]
 
 
+def ends(way, number):
+    return [5, way, number]
+
+
+def turns(way, number):
+    return [6, way, number]
+
+
+def most(number):
+    return [7, number]
+
+
+def left(way):
+    return [8, way]
+
+
 def line(calls):
     return [number for call in calls for number in call]
 
@@ -127,6 +143,53 @@ def model_look(jobs, way, t, number=None):
     return model_history(tuple(jobs), way)[t][1][number]
 
 
+def model_ends(jobs, way, i):
+    todo = len(jobs[i][2])
+    for t, (runner, levels) in enumerate(model_history(jobs, way)):
+        todo -= runner == i
+        if todo == 0:
+            return t + 1
+    return -2
+
+
+def model_turns(jobs, way, i):
+    priority, comes, needs = jobs[i]
+    count, done = 0, 0
+    for t, (runner, levels) in enumerate(model_history(jobs, way)):
+        if t >= comes and done < len(needs) and runner >= 0 and jobs[runner][0] < priority:
+            count += 1
+        done += runner == i
+    return count
+
+
+@lru_cache(maxsize=64)
+def model_most(jobs, i):
+    """Each row of units of each lesser job is tried, from each first to each last."""
+    high = {lock for lock in range(8) if model_ceiling(jobs, lock) >= jobs[i][0]}
+    found = [0]
+    for priority, comes, needs in jobs:
+        begun_high = [k > 0 and bool(locks(needs[k - 1]) & locks(needs[k]) & high) for k in range(len(needs))]
+        for first in range(len(needs)):
+            for last in range(first, len(needs)):
+                if priority < jobs[i][0] and all(begun_high[first + 1:last + 1]):
+                    found.append(last - first + 1 - 1)
+    return max(found)
+
+
+def model_whole(jobs, call):
+    """The calls that are about all times at once: ends, turns, most, left."""
+    jobs = tuple(jobs)
+    if call[0] != 7 and call[1] not in WAYS or call[0] != 8 and call[-1] not in range(len(jobs)):
+        return -1
+    if call[0] == 5:
+        return model_ends(jobs, call[1], call[2])
+    if call[0] == 6:
+        return model_turns(jobs, call[1], call[2])
+    if call[0] == 7:
+        return model_most(jobs, call[1])
+    return sum(model_ends(jobs, call[1], i) < 0 for i in range(len(jobs)))
+
+
 def model(calls):
     """What the document asks as answers to these calls, behind a begin."""
     jobs, told = [], []
@@ -138,6 +201,8 @@ def model(calls):
             told.append(model_tell(jobs, call[1], call[2], call[3], call[5:]))
         elif call[0] == 2:
             told.append(model_ceiling(jobs, call[1]) if call[1] in range(8) else -1)
-        else:
+        elif call[0] < 5:
             told.append(model_look(jobs, *call[1:]))
+        else:
+            told.append(model_whole(jobs, call))
     return told

@@ -3,13 +3,14 @@
 import random
 import unittest
 
-from helper import (BEGIN, GREATEST, LEAST, WAYS, ask, at, ceiling, job, job_without_units, model, runs)
+from helper import (BEGIN, GREATEST, LEAST, WAYS, ask, ask_after, at, ceiling, ends, job, job_without_units, left,
+                    model, most, runs, turns)
 
 
-def needs_of(chance, few):
+def needs_of(chance, few, stop=9):
     """Units that take locks one by one and keep them for a while, as jobs with locks do."""
     units, now = [], 0
-    for k in range(chance.randrange(1, 9)):
+    for k in range(chance.randrange(1, stop)):
         if chance.random() < 0.2:
             now &= chance.choice([0, chance.randrange(256)])
         if chance.random() < 0.6:
@@ -40,20 +41,30 @@ def all_looks(count, until):
     return looks + [at(way, t, i) for way in WAYS for t in range(until) for i in range(count)]
 
 
+def whole_looks(count):
+    """All that can be asked of so many jobs without a time."""
+    looks = [call for way in WAYS for i in range(count) for call in (ends(way, i), turns(way, i))]
+    return looks + [most(i) for i in range(count)] + [left(way) for way in WAYS]
+
+
 def some_number(chance, usual):
     return chance.choice(usual) if chance.random() < 0.9 else chance.choice([LEAST, -1, 3, 8, 1000, 1001, 2000, GREATEST])
 
 
 def some_call(chance):
-    kind = chance.randrange(12)
+    kind = chance.randrange(16)
     if kind == 0:
         return BEGIN if chance.random() < 0.2 else job_without_units(some_number(chance, [5]), 0, chance.choice([0, 33]))
     if kind < 4:
         return job(some_number(chance, range(1, 20)), some_number(chance, range(10)), needs_of(chance, 4))
     if kind == 4:
         return ceiling(some_number(chance, range(8)))
-    way, t = some_number(chance, WAYS), some_number(chance, range(40))
-    return runs(way, t) if kind < 8 else at(way, t, some_number(chance, range(8)))
+    way, t, number = some_number(chance, WAYS), some_number(chance, range(40)), some_number(chance, range(8))
+    if kind < 7:
+        return runs(way, t)
+    if kind < 10:
+        return at(way, t, number)
+    return chance.choice([ends(way, number), turns(way, number), most(number), left(way)])
 
 
 class AgainstTheModel(unittest.TestCase):
@@ -68,9 +79,20 @@ class AgainstTheModel(unittest.TestCase):
             chance.shuffle(looks)
             self.check(told + looks[:399 - len(told)])
 
+    def test_rows_of_jobs_as_a_whole(self):
+        for told in rows():
+            self.check(told + whole_looks(len(told)))
+
+    def test_rows_of_long_jobs_as_a_whole(self):
+        chance = random.Random(4)
+        for k in range(10):
+            few = chance.choice([2, 4, 8])
+            told = [job(p, chance.randrange(300), needs_of(chance, few, 33)) for p in chance.sample(range(1, 1001), 8)]
+            self.check(told + whole_looks(8))
+
     def test_lines_of_all_calls(self):
         chance = random.Random(2)
-        for k in range(40):
+        for k in range(60):
             self.check([some_call(chance) for n in range(60)])
 
     def test_the_rows_idle_and_get_stuck_often_enough_to_tell(self):
@@ -84,6 +106,22 @@ class AgainstTheModel(unittest.TestCase):
         self.assertGreater(min(seen[way, -4] for way in WAYS), 20)
         # With ceilings nobody is ever stuck: that is what they are for.
         self.assertEqual(seen[2, -5], 0)
+
+    def test_the_rows_have_turns_and_holds_often_enough_to_tell(self):
+        seen = {"some left": 0, "all done": 0, "most": set()}
+        differing = {way: 0 for way in WAYS}
+        for told in rows():
+            count = range(len(told))
+            waits = [ask_after(told, [turns(way, i) for i in count]) for way in WAYS]
+            for way in WAYS:
+                differing[way] += any(waits[way]) and waits[way] not in waits[:way]
+            seen["most"].update(ask_after(told, [most(i) for i in count]))
+            stay = ask_after(told, [left(0)])[0]
+            seen["some left"] += 0 < stay < len(told)
+            seen["all done"] += stay == 0
+        self.assertGreater(min(differing.values()), 10)
+        self.assertGreater(min(seen["some left"], seen["all done"]), 5)
+        self.assertGreaterEqual(seen["most"], set(range(7)))
 
 
 if __name__ == "__main__":

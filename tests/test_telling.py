@@ -2,7 +2,8 @@
 
 import unittest
 
-from helper import (BEGIN, GREATEST, LEAST, WAYS, ask, ask_after, at, ceiling, job, job_without_units, runs)
+from helper import (BEGIN, GREATEST, LEAST, WAYS, ask, ask_after, at, ceiling, ends, job, job_without_units, left, most,
+                    runs, turns)
 
 ALL_CEILINGS = [ceiling(lock) for lock in range(8)]
 EIGHT = [job(100 * (i + 1), i, [1 << i]) for i in range(8)]
@@ -19,6 +20,8 @@ class Begin(unittest.TestCase):
         looks = ALL_CEILINGS + [runs(way, 0) for way in WAYS] + [at(way, 0, 0) for way in WAYS]
         told = EIGHT + looks + [BEGIN]
         self.assertEqual(ask_after(told, looks), [0] * 8 + [-4] * 3 + [-1] * 3)
+        looks = [ends(1, 0), turns(1, 0), most(0), left(1)]
+        self.assertEqual(ask_after(EIGHT + looks + [BEGIN], looks), [-1, -1, -1, 0])
 
     def test_jobs_are_counted_and_numbered_anew_and_priorities_are_free_again(self):
         told = EIGHT + [BEGIN]
@@ -72,6 +75,8 @@ class Job(unittest.TestCase):
         told = [job(10, 0, [1, 1]), job(20, 1, [3])]
         looks = ALL_CEILINGS + [runs(way, t) for way in WAYS for t in range(5)]
         looks = looks + [at(way, t, i) for way in WAYS for t in range(5) for i in range(3)]
+        looks = looks + [ends(way, 0) for way in WAYS] + [turns(way, 1) for way in WAYS] + [left(way) for way in WAYS]
+        looks = looks + [most(1), most(2), ends(0, 2), turns(0, 2)]
         due = ask_after(told, looks)
         refused = [job(priority, 0, [255]) for priority in OUTSIDE_PRIORITY]
         refused += [job(30, comes, [255]) for comes in OUTSIDE_COMES]
